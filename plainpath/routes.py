@@ -47,9 +47,13 @@ def are_tags(tags):
     return True
 
 
-def need_route(route):
-    if not is_prefix(route[0]):
+def need_prefix(prefix):
+    if not is_prefix(prefix):
         raise BadRoute("the prefix is not of 0 to 16 signs 0 and 1")
+
+
+def need_route(route):
+    need_prefix(route[0])
     if not is_path(route[1]):
         raise BadRoute("the path is not of 1 to 12 numbers 1 to 999")
     if not 0 <= route[2] <= GREATEST_WEIGHT:

@@ -37,6 +37,34 @@ INTERFACE = {
         "fits": ["rule", "route"],
         "judged": ["rules", "route"],
     },
+    "plainpath.routers": {"Router": ["number"]},
+    "plainpath.webs": {"Web": ["numbers"]},
+}
+METHODS = {
+    ("plainpath.routers", "Router"): {
+        "add": ["other"],
+        "up": ["other"],
+        "down": ["other"],
+        "rules": ["other", "side", "some"],
+        "hear": ["other", "route"],
+        "gone": ["other", "prefix"],
+        "own": ["prefix", "is_own"],
+        "best": ["prefix"],
+        "find": ["address"],
+        "chosen": [],
+        "due": ["other"],
+        "tell": ["other"],
+    },
+    ("plainpath.webs", "Web"): {
+        "join": ["one", "other"],
+        "cut": ["one", "other"],
+        "own": ["number", "prefix", "is_own"],
+        "settle": [],
+        "send": ["one", "other"],
+        "arrive": ["one", "other"],
+        "is_resting": [],
+        "router": ["number"],
+    },
 }
 
 
@@ -46,6 +74,13 @@ def sources():
 
 def nodes():
     return [(name, node) for name, text in sources() for node in ast.walk(ast.parse(text))]
+
+
+def own_values():
+    return [
+        node.attr for name, node in nodes()
+        if isinstance(node, ast.Attribute) and isinstance(node.ctx, ast.Store)
+    ]
 
 
 def own_methods():
@@ -65,6 +100,14 @@ class InterfaceTest(unittest.TestCase):
                     value = getattr(loaded, name)
                     if arguments is not None:
                         self.assertEqual(list(inspect.signature(value).parameters), arguments)
+
+    def test_methods_and_arguments(self):
+        for (module, name), methods in METHODS.items():
+            loaded = getattr(importlib.import_module(module), name)
+            for method, arguments in methods.items():
+                with self.subTest(name=name, method=method):
+                    parameters = list(inspect.signature(getattr(loaded, method)).parameters)
+                    self.assertEqual(parameters, ["self"] + arguments)
 
     def test_init_binds_nothing(self):
         tree = ast.parse((PACKAGE / "__init__.py").read_text(encoding="utf-8"))
@@ -130,6 +173,23 @@ class FormTest(unittest.TestCase):
                     self.assertEqual(node.args.kwonlyargs, [])
                     for argument in node.args.args:
                         self.assertFalse(hasattr(builtins, argument.arg))
+
+    def test_no_name_is_a_method_and_a_value(self):
+        self.assertEqual(set(own_methods()) & set(own_values()), set())
+
+    def test_names_begin_with_no_underscore(self):
+        for name, node in nodes():
+            for word in ("id", "attr", "arg", "name"):
+                value = getattr(node, word, None)
+                if isinstance(value, str) and value != "__init__":
+                    with self.subTest(file=name, value=value):
+                        self.assertFalse(value.startswith("_"))
+
+    def test_is_stands_beside_none_true_and_false_alone(self):
+        for name, node in nodes():
+            if isinstance(node, ast.Compare) and isinstance(node.ops[0], (ast.Is, ast.IsNot)):
+                with self.subTest(file=name, line=node.lineno):
+                    self.assertIsInstance(node.comparators[0], ast.Constant)
 
     def test_words_that_stand_nowhere(self):
         pattern = re.compile(r"\b(" + "|".join(WORDS_LEFT_OUT) + r")\b|dataclass|overload|contextmanager")

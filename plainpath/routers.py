@@ -70,6 +70,9 @@ class Router:
     def has_neighbour(self, other):
         return other in self.neighbours
 
+    def speaks_with(self, other):
+        return self.need_neighbour(other).is_up
+
     def add(self, other):
         self.need_stranger(other)
         if self.has_neighbour(other):

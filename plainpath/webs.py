@@ -56,8 +56,17 @@ class Web:
     def own(self, number, prefix, is_own):
         self.router(number).own(prefix, is_own)
 
+    # Anyone may put a neighbour down at the router itself: the line stays then, and nothing is due to that neighbour.
+    def may_send(self, one, other):
+        return self.routers[one].speaks_with(other)
+
+    def has_due(self, one, other):
+        return self.may_send(one, other) and len(self.routers[one].due(other)) > 0
+
     def send(self, one, other):
         way = self.need_way(one, other)
+        if not self.may_send(one, other):
+            return False
         message = self.routers[one].tell(other)
         if message is None:
             return False
@@ -79,7 +88,9 @@ class Web:
         return True
 
     def carry_all(self, one, other):
-        self.ways[(one, other)].extend(self.routers[one].tell_all(other))
+        if self.may_send(one, other):
+            self.ways[(one, other)].extend(self.routers[one].tell_all(other))
+        # What was on the way before still arrives, whoever is down at the sender now.
         while self.arrive(one, other):
             pass
 
@@ -90,6 +101,6 @@ class Web:
 
     def is_resting(self):
         for way in self.ways:
-            if self.ways[way] or self.routers[way[0]].due(way[1]):
+            if self.ways[way] or self.has_due(way[0], way[1]):
                 return False
         return True

@@ -342,6 +342,111 @@ class RestTest(RefusalTest):
         self.assertIs(web.is_resting(), True)
 
 
+class DownUnderALineTest(RefusalTest):
+    """A neighbour that was put down at a router itself, while the line between the two stays."""
+
+    def downed(self):
+        web = web_of((1, 2, 3), row(3))
+        web.own(2, "0", True)
+        web.router(2).down(1)
+        return web
+
+    def test_nothing_is_due_to_it(self):
+        web = web_of((1, 2), [(1, 2)])
+        web.own(1, "0", True)
+        web.router(1).down(2)
+        self.assertIs(web.is_resting(), True)
+        self.assertIs(web.send(1, 2), False)
+        self.assertIsNone(web.settle())
+        self.assertIs(web.arrive(1, 2), False)
+        self.assertEqual(web.router(2).chosen(), [])
+
+    def test_the_router_itself_still_refuses(self):
+        web = self.downed()
+        self.refuses(NoNeighbour, web.router(2).due, 1)
+        self.refuses(NoNeighbour, web.router(2).tell, 1)
+
+    def test_at_both_ends(self):
+        web = web_of((1, 2), [(1, 2)])
+        web.router(1).down(2)
+        web.router(2).down(1)
+        web.own(1, "0", True)
+        web.own(2, "1", True)
+        self.assertIs(web.is_resting(), True)
+        self.assertIs(web.send(1, 2), False)
+        self.assertIs(web.send(2, 1), False)
+        self.assertIsNone(web.settle())
+        self.assertEqual(web.router(1).chosen(), ["0"])
+        self.assertEqual(web.router(2).chosen(), ["1"])
+
+    def test_the_line_is_there(self):
+        web = self.downed()
+        self.refuses(NoLine, web.join, 1, 2)
+        self.refuses(NoLine, web.join, 2, 1)
+        self.assertIsNone(web.cut(2, 1))
+        self.refuses(NoLine, web.send, 2, 1)
+
+    def test_settle_goes_on_over_other_lines(self):
+        web = self.downed()
+        web.own(3, "1", True)
+        self.assertIs(web.is_resting(), False)
+        self.assertIsNone(web.settle())
+        self.assertIs(web.is_resting(), True)
+        self.assertEqual(web.router(1).chosen(), [])
+        self.assertEqual(web.router(2).best("1"), (3, ("1", (3,), 0, ()), 100))
+        self.assertEqual(web.router(3).best("0"), (2, ("0", (2,), 0, ()), 100))
+
+    def test_what_it_said_is_told_gone_to_others(self):
+        web = web_of((1, 2, 3), row(3))
+        web.own(1, "01", True)
+        web.settle()
+        web.router(2).down(1)
+        self.assertIs(web.is_resting(), False)
+        self.assertIsNone(web.settle())
+        self.assertEqual(web_seen(web, (1, 2, 3)), {(1, "01"): (0, ("01", (), 0, ()), 100)})
+
+    def test_what_is_on_the_way_to_it_still_arrives(self):
+        for deed in (lambda web: web.settle(), lambda web: web.arrive(1, 2)):
+            web = web_of((1, 2), [(1, 2)])
+            web.own(1, "0", True)
+            web.own(1, "1", True)
+            web.send(1, 2)
+            web.router(1).down(2)
+            self.assertIs(web.is_resting(), False)
+            deed(web)
+            self.assertIs(web.is_resting(), True)
+            self.assertEqual(web.router(2).chosen(), ["0"])
+
+    def test_up_again_all_is_due(self):
+        web = web_of((1, 2), [(1, 2)])
+        web.own(1, "0", True)
+        web.settle()
+        web.router(1).down(2)
+        web.own(1, "1", True)
+        self.assertIs(web.is_resting(), True)
+        web.router(1).up(2)
+        self.assertIs(web.is_resting(), False)
+        self.assertEqual(web.router(1).due(2), [("route", ("0", (1,), 0, ())), ("route", ("1", (1,), 0, ()))])
+        for is_due in (True, True, False):
+            self.assertIs(web.send(1, 2), is_due)
+        web.settle()
+        self.assertEqual(web.router(2).chosen(), ["0", "1"])
+
+    def test_one_that_hears_nothing_refuses_what_arrives(self):
+        # Here the listener has put the speaker down: to the listener, which is up at the speaker, all is still due.
+        web = self.downed()
+        web.own(1, "1", True)
+        self.assertIs(web.is_resting(), False)
+        self.assertIs(web.send(1, 2), True)
+        self.refuses(NoNeighbour, web.arrive, 1, 2)
+        self.refuses(NoNeighbour, web.settle)
+        self.assertIs(web.is_resting(), False)
+        web.router(2).up(1)
+        self.assertIsNone(web.settle())
+        self.assertEqual(web.router(2).best("1"), (1, ("1", (1,), 0, ()), 100))
+        self.assertEqual(web.router(1).best("0"), (2, ("0", (2,), 0, ()), 100))
+
+
 class SettleTest(RefusalTest):
     def test_it_ends_at_rest(self):
         web = web_of(range(1, 7), ring(6))
